@@ -1,0 +1,1 @@
+"""Programs that run both ways; the functions to call lie in undorundesk.desk."""
