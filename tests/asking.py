@@ -1,11 +1,20 @@
 """How the tests ask the program: texts are written as Python texts and handed in as bytes."""
 
-from undorundesk.desk import check
+import unittest
+
+from undorundesk.desk import check, run
 
 WRONG_TOKEN = -100
 WRONG_RULE = -1000000
+BY_ZERO = -2000000
+OUTSIDE_ROW = -3000000
+NOT_AS_IT_MUST = -4000000
 OVER_LIMIT = [-5]
 OUT_OF_RANGE = [-2]
+STEPS_OVER = [-6]
+
+MOST_STEPS = 1000000
+LARGEST = 4294967295
 
 
 def as_bytes(text):
@@ -16,6 +25,14 @@ def asked(text):
     return check(as_bytes(text))
 
 
+def ran(text, words=(), steps=MOST_STEPS):
+    return run(steps, 0, as_bytes(text), list(words))
+
+
+def ran_back(text, words=(), steps=MOST_STEPS):
+    return run(steps, 1, as_bytes(text), list(words))
+
+
 def misplaced(place):
     return [WRONG_TOKEN - place]
 
@@ -24,9 +41,29 @@ def broken(place):
     return [WRONG_RULE - place]
 
 
+def by_zero(place):
+    return [BY_ZERO - place]
+
+
+def outside(place):
+    return [OUTSIDE_ROW - place]
+
+
+def unfulfilled(place):
+    return [NOT_AS_IT_MUST - place]
+
+
 def marked(text):
     """The text without its one mark @, and the place where the mark stood."""
     place = text.index("@")
     if text.count("@") != 1:
         raise ValueError(text)
     return text.replace("@", ""), place
+
+
+class BothWays(unittest.TestCase):
+    def assert_both(self, text, before, steps, behind):
+        """On it makes these words of those, and back those of these."""
+        with self.subTest(text):
+            self.assertEqual(ran(text, before), [steps] + behind)
+            self.assertEqual(ran_back(text, behind), [steps] + before)

@@ -1,16 +1,26 @@
-"""How check is called: what is handed in, what is given back, and how far its calls nest."""
+"""How the functions are called: what is handed in, what is given back, and how far their calls nest."""
 
 import inspect
 import sys
 import unittest
 
-from tests.asking import as_bytes, asked, broken, misplaced
-from undorundesk.desk import check
+from tests.asking import LARGEST, MOST_STEPS, as_bytes, asked, broken, by_zero, misplaced
+from undorundesk.desk import check, run
 
 TEXTS = [
     "", "main { }", "int x, r[3]; proc f(a) { a += 1; } main { call f(x); r[x] ^= !x; }", "main { x += 1; }",
     "int r[4097]; main { }", "main { ; }", "int x; main { x += 4294967296; }", " " * 65537,
     "int x; proc f() { local x = 1 { } delocal 1; } main { local y = 1 { } delocal 1; call f(); }",
+]
+
+
+# What can be run, and words for it; some to the end, some to a refusal.
+RUNS = [
+    ("main { }", []), ("int x, r[3]; main { }", [4, 3, 2, 1]), ("int x; main { x += 1; }", [LARGEST]), ("main { ; }", []),
+    ("int x, r[3]; proc f(a, b[]) { a += 1; b[a] ^= 7; } main { call f(x, r); x <=> r[0]; }", [0, 3, 2, 1]),
+    ("int x; main { local y = x { y += 1; x += 1; } delocal x; }", [3]), ("int x; main { x += 1; x += 1 / 0; }", [3]),
+    ("int x; main { from x = 0 do { x += 1; } loop { } until x = 0; }", [0]), ("int x; main { x += 1; }", []),
+    ("int x; main { x += 1; if x { } else { } fi 0; }", [1]), ("int x; main { x -= 1; x += y; }", [1]),
 ]
 
 
@@ -53,13 +63,50 @@ class Interface(unittest.TestCase):
         self.assertEqual(asked("main { }"), [0])
 
 
-def with_little_room(text):
-    """What check answers when few calls can stand within one another."""
+class RunInterface(unittest.TestCase):
+    def test_the_arguments_and_what_is_given_back(self):
+        self.assertEqual(list(inspect.signature(run).parameters), ["steps", "back", "text", "words"])
+        for text, words in RUNS:
+            for back in [0, 1]:
+                answer = run(steps=500, back=back, text=as_bytes(text), words=list(words))
+                self.assertIs(type(answer), list)
+                self.assertEqual(len(answer), 1 if answer[0] < 0 else 1 + len(words))
+                for number in answer:
+                    self.assertIs(type(number), int)
+
+    def test_what_is_handed_in_is_not_changed(self):
+        for text, words in RUNS:
+            for back in [0, 1]:
+                handed, given = as_bytes(text), list(words)
+                answer = run(500, back, handed, given)
+                self.assertEqual(handed, as_bytes(text))
+                self.assertEqual(given, words)
+                self.assertEqual(run(500, back, Frozen(handed), Frozen(given)), answer)
+
+    def test_nothing_is_kept(self):
+        ways = [(text, words, back) for text, words in RUNS for back in [0, 1]]
+        alone = [run(500, back, as_bytes(text), words) for text, words, back in ways]
+        for first, (text, words, back) in enumerate(ways):
+            for second, (other, others, other_back) in enumerate(ways):
+                self.assertEqual(run(500, back, as_bytes(text), words), alone[first])
+                self.assertEqual(run(500, other_back, as_bytes(other), others), alone[second])
+
+    def test_an_answer_is_its_own(self):
+        words = [4, 3, 2, 1]
+        answer = run(1, 0, as_bytes("int x, r[3]; main { }"), words)
+        answer[1] = 9
+        answer.append(1)
+        self.assertEqual(words, [4, 3, 2, 1])
+        self.assertEqual(run(1, 0, as_bytes("int x, r[3]; main { }"), words), [0, 4, 3, 2, 1])
+
+
+def with_little_room(ask, *handed):
+    """What a function answers when few calls can stand within one another."""
     room = len(inspect.stack()) + 200
     before = sys.getrecursionlimit()
     sys.setrecursionlimit(room)
     try:
-        return check(text)
+        return ask(*handed)
     finally:
         sys.setrecursionlimit(before)
 
@@ -75,7 +122,7 @@ class LongTexts(unittest.TestCase):
     def assert_long(self, text, answer):
         self.assertEqual(len(text), 65536)
         with self.subTest(text[:40]):
-            self.assertEqual(with_little_room(as_bytes(text)), answer)
+            self.assertEqual(with_little_room(check, as_bytes(text)), answer)
 
     def test_as_many_as_fit(self):
         self.assert_long(filled("int x,y;main{x+=y", "+y", ";}"), [2])
@@ -119,6 +166,46 @@ class LongTexts(unittest.TestCase):
         self.assert_long(filled("int x,r[2];main{x+=" + "r[" * 31 + "1", "+1", "]" * 31 + ";}"), [3])
         self.assert_long(filled("int x,r[2];main{x+=" + "(" * 31 + "1", "+1", ")" * 31 + ";}"), [3])
         self.assert_long(filled("int x,y;main{x+=1", "+" + "!" * 31 + "y", ";}"), [2])
+
+
+class LongRuns(unittest.TestCase):
+    def assert_long(self, text, words, answer):
+        self.assertEqual(len(text), 65536)
+        with self.subTest(text[:40]):
+            self.assertEqual(with_little_room(run, MOST_STEPS, 0, as_bytes(text), words), answer)
+            if answer[0] >= 0:
+                again = with_little_room(run, MOST_STEPS, 1, as_bytes(text), answer[1:])
+                self.assertEqual(again, [answer[0]] + words)
+
+    def test_long_expressions(self):
+        times = (65536 - 19) // 2
+        self.assert_long(filled("int x,y;main{x+=y", "+y", ";}"), [0, 3], [1, 3 * (times + 1), 3])
+        self.assert_long(filled("int x,y;main{x+=y", "-y", ";}"), [0, 3], [1, (3 - 3 * times) % (LARGEST + 1), 3])
+        self.assert_long(filled("int x,y;main{x+=1", "*y", ";}"), [0, 3], [1, pow(3, times, LARGEST + 1), 3])
+        self.assert_long(filled("int x,y;main{x+=y", "|y^y&y=y+y*y", ";}"), [0, 2], [1, 2, 2])
+        self.assert_long(filled("int x,y;main{x+=1", "/y", ";}"), [0, 0], by_zero(17))
+        self.assert_long(filled("int x,r[2];main{r[1", "-0", "]+=x;}"), [5, 1, 2], [1, 5, 1, 7])
+        self.assert_long(filled("int x,r[2];main{x+=0", "+r[1]", ";}"), [0, 0, 1], [1, (65536 - 22) // 5, 0, 1])
+
+    def test_long_blocks(self):
+        times = (65536 - 12) // 5
+        self.assert_long(filled("int x;main{", "x+=1;", "}"), [0], [times, times])
+        self.assert_long(filled("int x;main{", "skip;", "}"), [7], [times, 7])
+        self.assert_long(filled("int x;proc f(a){a+=3;}main{", "call f(x);", "}"), [0], [2 * 6550, 3 * 6550])
+        self.assert_long(filled("int x;main{", "local a=x{}delocal x;", "}"), [7], [(65536 - 12) // 21, 7])
+        self.assert_long(filled("int x;main{", "if x{}else{}fi x;", "}"), [7], [(65536 - 12) // 17, 7])
+        self.assert_long(filled("int x;main{", "from x do{}loop{}until x;", "}"), [7], [2 * ((65536 - 12) // 25), 7])
+
+    def test_as_deep_as_can_be(self):
+        times = (65536 - 11 - 31 * 17 - 1) // 5
+        self.assert_long(filled("int x;main{" + "if 1{" * 31, "x+=1;", "}else{}fi 1;" * 31 + "}"), [0], [31 + times, times])
+        self.assert_long(filled("int x,r[2];main{x+=" + "r[" * 31 + "1", "-0", "]" * 31 + ";}"), [0, 0, 1], [1, 1, 0, 1])
+        self.assert_long(filled("int x,y;main{x+=1", "+" + "!" * 31 + "y", ";}"), [0, 0], [1, 1 + (65536 - 19) // 33, 0])
+
+    def test_calls_within_one_another(self):
+        text = "int n; proc f(n) { if n = 0 { } else { n -= 1; call f(n); n += 1; } fi n = 0; } main { call f(n); }"
+        answer = with_little_room(run, MOST_STEPS, 0, as_bytes(text), [20000])
+        self.assertEqual(answer, [2 + 4 * 20000, 20000])
 
 
 if __name__ == "__main__":

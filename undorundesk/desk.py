@@ -1,7 +1,10 @@
 """The functions that the program is used by."""
 
 from undorundesk.intake import count_words, take_in
-from undorundesk.refusals import Refusal
+from undorundesk.machine import run_program
+from undorundesk.refusals import OutOfRange, Refusal
+
+MOST_STEPS = 1000000
 
 
 def check(text):
@@ -11,3 +14,16 @@ def check(text):
     except Refusal as refusal:
         return [refusal.number]
     return [count_words(program)]
+
+
+def run(steps, back, text, words):
+    """How many steps a run from these words took, then the words at its end; or a refusal."""
+    try:
+        if not 1 <= steps <= MOST_STEPS:
+            raise OutOfRange()
+        program = take_in(text)
+        if len(words) != count_words(program):
+            raise OutOfRange()
+        return run_program(program, steps, back != 0, words)
+    except Refusal as refusal:
+        return [refusal.number]

@@ -129,44 +129,45 @@ class Parser:
         elif kind == "local":
             statement = self.read_local()
         else:
-            statement = Skip(self.take("skip"))
+            self.take("skip")
+            statement = Skip()
         self.take(";")
         return statement
 
     def read_change(self):
         variable = self.read_variable()
         if self.token.kind in CHANGES:
-            sign = self.take(self.token.kind)
+            sign = self.take(self.token.kind).kind
             return Change(variable, sign, self.read_expression())
         self.take("<=>")
         return Swap(variable, self.read_variable())
 
     def read_if(self):
-        word = self.take("if")
+        opening = self.take("if").place
         before = self.read_expression()
         first = self.read_block()
         self.take("else")
         second = self.read_block()
-        self.take("fi")
-        return Forked(word, before, first, second, self.read_expression())
+        closing = self.take("fi").place
+        return Forked("if", opening, before, first, second, closing, self.read_expression())
 
     def read_from(self):
-        word = self.take("from")
+        opening = self.take("from").place
         before = self.read_expression()
         self.take("do")
         first = self.read_block()
         self.take("loop")
         second = self.read_block()
-        self.take("until")
-        return Forked(word, before, first, second, self.read_expression())
+        closing = self.take("until").place
+        return Forked("from", opening, before, first, second, closing, self.read_expression())
 
     def read_call(self, kind):
-        word = self.take(kind)
+        self.take(kind)
         procedure = self.take("name")
         self.take("(")
         handed = self.read_handed()
         self.take(")")
-        return Call(word, procedure, handed)
+        return Call(kind, procedure, handed)
 
     def read_handed(self):
         if self.token.kind == ")":
@@ -177,13 +178,13 @@ class Parser:
         return found
 
     def read_local(self):
-        self.take("local")
+        opening = self.take("local").place
         name = self.take("name")
         self.take("=")
         before = self.read_expression()
         block = self.read_block()
-        self.take("delocal")
-        return Local(name, before, block, self.read_expression())
+        closing = self.take("delocal").place
+        return Local(opening, name, before, block, closing, self.read_expression())
 
     def read_expression(self):
         found = self.read_operand()

@@ -34,3 +34,31 @@ class RuleBroken(Refusal):
 
     def __init__(self, place):
         Refusal.__init__(self, -1000000 - place)
+
+
+class StepsOver(Refusal):
+    """A run needs one more step than it may take."""
+
+    def __init__(self):
+        Refusal.__init__(self, -6)
+
+
+class DividedByZero(Refusal):
+    """The / or the sign for the rest at this place is by 0."""
+
+    def __init__(self, place):
+        Refusal.__init__(self, -2000000 - place)
+
+
+class OutsideRow(Refusal):
+    """The row named at this place is asked for a word that it hasn't."""
+
+    def __init__(self, place):
+        Refusal.__init__(self, -3000000 - place)
+
+
+class NotAsItMust(Refusal):
+    """What the word at this place asks for doesn't hold."""
+
+    def __init__(self, place):
+        Refusal.__init__(self, -4000000 - place)

@@ -35,7 +35,7 @@ class Procedure:
 
 
 class Change:
-    """v += e, v -= e or v ^= e."""
+    """v += e, v -= e or v ^= e, as its sign tells."""
 
     def __init__(self, variable, sign, expression):
         self.variable = variable
@@ -52,37 +52,44 @@ class Swap:
 
 
 class Forked:
-    """An if or a from, as its word tells: two blocks, with an expression before and one behind."""
+    """An if or a from, as its kind tells: two blocks, with an expression before and one behind.
 
-    def __init__(self, word, before, first, second, behind):
-        self.word = word
+    Opening is the place of the if or the from, closing that of the fi or the until.
+    """
+
+    def __init__(self, kind, opening, before, first, second, closing, behind):
+        self.kind = kind
+        self.opening = opening
         self.before = before
         self.first = first
         self.second = second
+        self.closing = closing
         self.behind = behind
 
 
 class Call:
-    """A call or an uncall, as its word tells."""
+    """A call or an uncall, as its kind tells."""
 
-    def __init__(self, word, procedure, handed):
-        self.word = word
+    def __init__(self, kind, procedure, handed):
+        self.kind = kind
         self.procedure = procedure
         self.handed = handed
 
 
 class Local:
-    """A local variable and the block that it is for."""
+    """A local variable and the block that it is for.
 
-    def __init__(self, name, before, block, behind):
+    Opening is the place of the local, closing that of the delocal.
+    """
+
+    def __init__(self, opening, name, before, block, closing, behind):
+        self.opening = opening
         self.name = name
         self.before = before
         self.block = block
+        self.closing = closing
         self.behind = behind
 
 
 class Skip:
     """A statement that does nothing."""
-
-    def __init__(self, word):
-        self.word = word
