@@ -2,7 +2,7 @@
 
 import unittest
 
-from undorundesk.desk import check, run
+from undorundesk.desk import check, run, turn
 
 WRONG_TOKEN = -100
 WRONG_RULE = -1000000
@@ -11,10 +11,12 @@ OUTSIDE_ROW = -3000000
 NOT_AS_IT_MUST = -4000000
 OVER_LIMIT = [-5]
 OUT_OF_RANGE = [-2]
+NO_ROOM = [-1]
 STEPS_OVER = [-6]
 
 MOST_STEPS = 1000000
 LARGEST = 4294967295
+LARGEST_MOST = 2147483647
 
 
 def as_bytes(text):
@@ -31,6 +33,14 @@ def ran(text, words=(), steps=MOST_STEPS):
 
 def ran_back(text, words=(), steps=MOST_STEPS):
     return run(steps, 1, as_bytes(text), list(words))
+
+
+def about(text):
+    """The text turned about, as a Python text."""
+    answer = turn(LARGEST_MOST, as_bytes(text))
+    if answer[0] < 0 or len(answer) != answer[0] + 1:
+        raise ValueError(answer[:2])
+    return bytes(answer[1:]).decode("latin-1")
 
 
 def misplaced(place):

@@ -4,8 +4,9 @@ import inspect
 import sys
 import unittest
 
-from tests.asking import LARGEST, MOST_STEPS, as_bytes, asked, broken, by_zero, misplaced
-from undorundesk.desk import check, run
+from tests.asking import LARGEST, LARGEST_MOST, MOST_STEPS, as_bytes, asked, broken, by_zero, misplaced
+from tests.retelling import spaced
+from undorundesk.desk import check, run, turn
 
 TEXTS = [
     "", "main { }", "int x, r[3]; proc f(a) { a += 1; } main { call f(x); r[x] ^= !x; }", "main { x += 1; }",
@@ -98,6 +99,43 @@ class RunInterface(unittest.TestCase):
         answer.append(1)
         self.assertEqual(words, [4, 3, 2, 1])
         self.assertEqual(run(1, 0, as_bytes("int x, r[3]; main { }"), words), [0, 4, 3, 2, 1])
+
+
+class TurnInterface(unittest.TestCase):
+    def test_the_arguments_and_what_is_given_back(self):
+        self.assertEqual(list(inspect.signature(turn).parameters), ["most", "text"])
+        for text in TEXTS:
+            for most in [0, 20, LARGEST_MOST]:
+                answer = turn(most=most, text=as_bytes(text))
+                self.assertIs(type(answer), list)
+                self.assertEqual(len(answer), 1 if answer[0] < 0 else 1 + answer[0])
+                for number in answer:
+                    self.assertIs(type(number), int)
+                for number in answer[1:]:
+                    self.assertTrue(0 <= number <= 255)
+
+    def test_what_is_handed_in_is_not_changed(self):
+        for text in TEXTS:
+            handed = as_bytes(text)
+            answer = turn(LARGEST_MOST, handed)
+            self.assertEqual(handed, as_bytes(text))
+            self.assertEqual(turn(LARGEST_MOST, Frozen(handed)), answer)
+
+    def test_nothing_is_kept(self):
+        ways = [(text, most) for text in TEXTS for most in [0, 50, LARGEST_MOST]]
+        alone = [turn(most, as_bytes(text)) for text, most in ways]
+        for first, (text, most) in enumerate(ways):
+            for second, (other, other_most) in enumerate(ways):
+                self.assertEqual(turn(most, as_bytes(text)), alone[first])
+                self.assertEqual(turn(other_most, as_bytes(other)), alone[second])
+
+    def test_an_answer_is_its_own(self):
+        handed = as_bytes("int x; main { x += 7; }")
+        first = turn(LARGEST_MOST, handed)
+        kept = list(first)
+        first[1:] = [0]
+        self.assertEqual(handed, as_bytes("int x; main { x += 7; }"))
+        self.assertEqual(turn(LARGEST_MOST, handed), kept)
 
 
 def with_little_room(ask, *handed):
@@ -206,6 +244,75 @@ class LongRuns(unittest.TestCase):
         text = "int n; proc f(n) { if n = 0 { } else { n -= 1; call f(n); n += 1; } fi n = 0; } main { call f(n); }"
         answer = with_little_room(run, MOST_STEPS, 0, as_bytes(text), [20000])
         self.assertEqual(answer, [2 + 4 * 20000, 20000])
+
+
+class LongTurns(unittest.TestCase):
+    def assert_long(self, text, wanted):
+        """Wanted is the text turned about, but with single blanks where line feeds stand."""
+        with self.subTest(text[:40]):
+            self.assertLessEqual(len(text), 65536)
+            told = as_bytes(spaced(wanted.split()))
+            self.assertEqual(with_little_room(turn, LARGEST_MOST, as_bytes(text)), [len(told)] + told)
+
+    def assert_long_expression(self, ahead, again, behind, told_ahead, told_again, told_behind):
+        """What stands again and again in the expression fills the text up."""
+        start, end = "int x,y,r[2];main{x+=", ";}"
+        text = filled(start + ahead, again, behind + end)
+        times = (65536 - len(start + ahead + behind + end)) // len(again)
+        told = told_ahead + (" " + told_again) * times + " " + told_behind
+        self.assert_long(text, "int x , y , r [ 2 ] ; main { x -= " + told + " ; }")
+
+    def test_long_expressions(self):
+        for sign in ["|", "^", "&", "=", "!=", "<", "<=", "+", "-", "*", "/", "%"]:
+            self.assert_long_expression("y", sign + "y", "", "y", sign + " y", "")
+        self.assert_long_expression("y", "+!y", "", "y", "+ ! y", "")
+        self.assert_long_expression("y", "|y*(y)", "", "y", "| y * y", "")
+        self.assert_long_expression("y", "*(y|y)", "", "y", "* ( y | y )", "")
+        self.assert_long_expression("y", "|y^y&y=y+y*y", "", "y", "| y ^ y & y = y + y * y", "")
+        self.assert_long_expression("y", "+r[(1)]", "", "y", "+ r [ 1 ]", "")
+        self.assert_long_expression("r[r[0", "+y", "]]", "r [ r [ 0", "+ y", "] ]")
+        self.assert_long_expression("(" * 31 + "1", "+y", ")" * 31, "1", "+ y", "")
+
+    def test_long_expressions_within_one_another(self):
+        self.assert_long_expression("1-(" * 31 + "1", "-y", ")" * 31, "1 - ( " * 31 + "1", "- y", ") " * 31)
+        self.assert_long_expression("(" * 31 + "1", "+y", "*y|y)" * 31, "( " * 30 + "1", "+ y", "* y | y ) " * 30 + "* y | y")
+        self.assert_long_expression("!(" * 15 + "1", "+y", ")" * 15, "! " * 15 + "( 1", "+ y", ")")
+        self.assert_long_expression("!(1+" * 15 + "1", "-y", ")" * 15, "! ( 1 + " * 15 + "1", "- y", ") " * 15)
+        self.assert_long_expression("r[" * 31 + "1", "-0", "]" * 31, "r [ " * 31 + "1", "- 0", "] " * 31)
+        self.assert_long_expression("1", "+" + "!" * 31 + "y", "", "1", "+ " + "! " * 31 + "y", "")
+
+    def test_many_statements(self):
+        self.assert_long("int x;main{" + "x+=1;" * 13000 + "}", "int x ; main { " + "x -= 1 ; " * 13000 + "}")
+        self.assert_long("main{" + "skip;" * 13000 + "}", "main { " + "skip ; " * 13000 + "}")
+        numbers = list(range(10000, 17000))
+        told = "".join("x += %d ; " % number for number in reversed(numbers))
+        text = "".join("x-=%d;" % number for number in numbers)
+        self.assert_long("int x;main{" + text + "}", "int x ; main { " + told + "}")
+        self.assert_long("int x;proc f(a){" + text.replace("x", "a") + "}main{}",
+                         "int x ; proc f ( a ) { " + told.replace("x", "a") + "} main { }")
+        self.assert_long("int x;main{" + "if x{}else{}fi 1;" * 3800 + "}",
+                         "int x ; main { " + "if 1 { } else { } fi x ; " * 3800 + "}")
+
+    def test_blocks_as_deep_as_can_be(self):
+        forms = [
+            ("if 1{", "}else{}fi 2;", "if 2 { ", "} else { } fi 1 ; "),
+            ("if 1{}else{", "}fi 2;", "if 2 { } else { ", "} fi 1 ; "),
+            ("from 1 do{", "}loop{}until 2;", "from 2 do { ", "} loop { } until 1 ; "),
+            ("from 1 do{}loop{", "}until 2;", "from 2 do { } loop { ", "} until 1 ; "),
+        ]
+        for ahead, behind, told_ahead, told_behind in forms:
+            text = "int x;main{" + ahead * 31 + "skip;" + "x+=1;" * 9000 + behind * 31 + "}"
+            told = told_ahead * 31 + "x -= 1 ; " * 9000 + "skip ; " + told_behind * 31
+            self.assert_long(text, "int x ; main { " + told + "}")
+        names = ["l%d" % k for k in range(31)]
+        text = "".join("local %s=1{" % name for name in names) + "skip;l30+=1;" + "}delocal 2;" * 31
+        told = "".join("local %s = 2 { " % name for name in names) + "l30 -= 1 ; skip ; " + "} delocal 1 ; " * 31
+        self.assert_long("main{" + text + "}", "main { " + told + "}")
+
+    def test_a_long_number(self):
+        number = "0" * 60000 + "7"
+        self.assert_long("int x,r[" + number + "];main{}", "int x , r [ " + number + " ] ; main { }")
+        self.assert_long("int x;main{x+=" + number + ";}", "int x ; main { x -= " + number + " ; }")
 
 
 if __name__ == "__main__":

@@ -2,7 +2,9 @@
 
 from undorundesk.intake import count_words, take_in
 from undorundesk.machine import run_program
-from undorundesk.refusals import OutOfRange, Refusal
+from undorundesk.refusals import NoRoom, OutOfRange, Refusal
+from undorundesk.telling import told_program
+from undorundesk.turning import turned_program
 
 MOST_STEPS = 1000000
 
@@ -25,5 +27,16 @@ def run(steps, back, text, words):
         if len(words) != count_words(program):
             raise OutOfRange()
         return run_program(program, steps, back != 0, words)
+    except Refusal as refusal:
+        return [refusal.number]
+
+
+def turn(most, text):
+    """How many bytes the text turned about has, then these bytes; or a refusal."""
+    try:
+        told = told_program(turned_program(take_in(text)))
+        if len(told) > most:
+            raise NoRoom()
+        return [len(told)] + told
     except Refusal as refusal:
         return [refusal.number]

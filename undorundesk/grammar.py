@@ -80,10 +80,10 @@ class Parser:
     def read_global(self):
         name = self.take("name")
         if not self.passes("["):
-            return Declared(name, False, 1)
-        size = self.take("number").value
+            return Declared(name, False, 1, None)
+        number = self.take("number")
         self.take("]")
-        return Declared(name, True, size)
+        return Declared(name, True, number.value, number)
 
     def read_procedure(self):
         self.take("proc")
@@ -104,9 +104,9 @@ class Parser:
     def read_parameter(self):
         name = self.take("name")
         if not self.passes("["):
-            return Declared(name, False, None)
+            return Declared(name, False, None, None)
         self.take("]")
-        return Declared(name, True, None)
+        return Declared(name, True, None, None)
 
     def read_block(self):
         self.enter("{")
@@ -223,5 +223,5 @@ class Parser:
         self.enter("[")
         found = self.read_expression()
         self.leave("]")
-        found.append(Token("row", name.value, name.place))
+        found.append(Token("row", name.value, name.place, name.spelling))
         return found

@@ -110,5 +110,5 @@ class Layout:
 
     def numbered_token(self, token):
         if token.kind in ("name", "row"):
-            return Token(token.kind, self.numbers[token.value], token.place)
+            return Token(token.kind, self.numbers[token.value], token.place, token.spelling)
         return token

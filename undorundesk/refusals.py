@@ -15,6 +15,13 @@ class OutOfRange(Refusal):
         Refusal.__init__(self, -2)
 
 
+class NoRoom(Refusal):
+    """What is answered has more bytes than it may."""
+
+    def __init__(self):
+        Refusal.__init__(self, -1)
+
+
 class Misplaced(Refusal):
     """A token, or the text's end, can't stand where it does."""
 

@@ -34,16 +34,17 @@ SIGNS_WITH_EQUALS = {33: "!=", 43: "+=", 45: "-=", 60: "<=", 94: "^="}
 
 
 class Token:
-    """A token and the place of its first byte.
+    """A token, the place of its first byte, and its bytes as they stand in the text.
 
     The kind is "name", "number", "end" (the text's end), "other" (a byte that begins no token),
     or else the keyword or the sign itself. The value is a name's text or a number's worth.
     """
 
-    def __init__(self, kind, value, place):
+    def __init__(self, kind, value, place, spelling):
         self.kind = kind
         self.value = value
         self.place = place
+        self.spelling = spelling
 
 
 def is_letter(byte):
@@ -81,7 +82,7 @@ class Scanner:
         self.pass_blanks()
         byte = self.byte_at(self.position)
         if byte == NO_BYTE:
-            return Token("end", "", self.position)
+            return Token("end", "", self.position, [])
         if is_letter(byte):
             return self.scan_word()
         if is_digit(byte):
@@ -112,8 +113,9 @@ class Scanner:
             self.position += 1
         if self.position - place > LONGEST_WORD:
             raise OverLimit()
-        word = "".join([letter_of(byte) for byte in self.text[place:self.position]])
-        return Token(word if word in KEYWORDS else "name", word, place)
+        spelling = self.text[place:self.position]
+        word = "".join([letter_of(byte) for byte in spelling])
+        return Token(word if word in KEYWORDS else "name", word, place, spelling)
 
     def scan_number(self):
         place = self.position
@@ -126,7 +128,7 @@ class Scanner:
             byte = self.byte_at(self.position)
         if value == FIRST_NUMBER_TOO_LARGE:
             raise OverLimit()
-        return Token("number", value, place)
+        return Token("number", value, place, self.text[place:self.position])
 
     def scan_sign(self, first):
         place = self.position
@@ -139,4 +141,4 @@ class Scanner:
                 kind = "<=>"
                 length = 3
         self.position += length
-        return Token(kind, "", place)
+        return Token(kind, "", place, self.text[place:self.position])

@@ -17,12 +17,16 @@ class Program:
 
 
 class Declared:
-    """A global or a parameter. The size is a global's number of words; of a parameter none is told."""
+    """A global or a parameter. The size is a global's number of words; of a parameter none is told.
 
-    def __init__(self, name, is_row, size):
+    The number is the token by which a global row's size is told; of all others there is none.
+    """
+
+    def __init__(self, name, is_row, size, number):
         self.name = name
         self.is_row = is_row
         self.size = size
+        self.number = number
 
 
 class Procedure:

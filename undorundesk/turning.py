@@ -3,9 +3,19 @@
 Calls stay as they are: what a block turned about calls is to be turned about too.
 """
 
-from undorundesk.tree import Change, Forked, Local
+from undorundesk.tree import Change, Forked, Local, Procedure, Program
 
 UNDONE_BY = {"+=": "-=", "-=": "+=", "^=": "^="}
+
+
+def turned_program(program):
+    """The program with every block turned about, so that calls may stay as they are."""
+    procedures = [turned_procedure(procedure) for procedure in program.procedures]
+    return Program(program.global_names, procedures, turned(program.main))
+
+
+def turned_procedure(procedure):
+    return Procedure(procedure.name, procedure.parameters, turned(procedure.block))
 
 
 def turned(block):
